@@ -1,0 +1,1 @@
+"""Strips of carpet whose pattern meets: see patternmeets.carpets."""
