@@ -1,7 +1,9 @@
 """Calls on one carpet, written as one list of whole numbers, and what they are answered."""
 
-from patternmeets.changes import add_roll, add_strip, back, begin, drop_roll, drop_strip, set_begins, set_pattern
-from patternmeets.questions import best, gap, need
+from patternmeets.changes import add_roll, add_strip, back, begin, drop_roll, drop_strip, set_begins, set_move
+from patternmeets.changes import set_pattern
+from patternmeets.questions import alone, best, best_last, best_move, could, finer, fits, gap, look, most, need, spare
+from patternmeets.questions import state
 from patternmeets.refusals import NOT_BEGUN
 from patternmeets.works import Carpet
 
@@ -16,9 +18,19 @@ BACK = 7
 GAP = 8
 NEED = 9
 BEST = 10
+BEST_LAST = 11
+FINER = 12
+BEST_MOVE = 13
+SET_MOVE = 14
+FITS = 15
+SPARE = 16
+MOST = 17
+COULD = 18
+ALONE = 19
+LOOK = 20
 
 # How many whole numbers each call is handed, by the call's number; a row is not counted.
-HANDED = (1, 2, 1, 2, 2, 1, 1, 0, 2, 0, 0)
+HANDED = (1, 2, 1, 2, 2, 1, 1, 0, 2, 0, 0, 1, 1, 0, 0, 0, 0, 0, 2, 2, 1, 0)
 
 
 def end_of_call(calls, at):
@@ -42,16 +54,36 @@ def answer_change(carpet, call, handed):
         return drop_roll(carpet, handed[0])
     if call == PATTERN:
         return set_pattern(carpet, handed[0])
+    if call == SET_MOVE:
+        return set_move(carpet)
     return back(carpet)
 
 
-def answer_question(carpet, call, handed):
+def answer_of_orders(carpet, call, handed):
     if call == GAP:
         return gap(carpet, handed[0], handed[1])
+    if call == NEED:
+        # The row stands behind how many numbers it has.
+        return need(carpet, handed[1:])
     if call == BEST:
         return best(carpet)
-    # The row stands behind how many numbers it has.
-    return need(carpet, handed[1:])
+    if call == BEST_LAST:
+        return best_last(carpet, handed[0])
+    if call == FINER:
+        return finer(carpet, handed[0])
+    return best_move(carpet)
+
+
+def answer_of_rolls(carpet, call, handed):
+    if call == FITS:
+        return fits(carpet)
+    if call == SPARE:
+        return spare(carpet)
+    if call == MOST:
+        return most(carpet)
+    if call == COULD:
+        return could(carpet, handed[0], handed[1])
+    return alone(carpet, handed[0], handed[1])
 
 
 def answer_call(carpet, call, handed):
@@ -59,9 +91,15 @@ def answer_call(carpet, call, handed):
         return begin(carpet, handed[0])
     if carpet.repeat == 0:
         return [NOT_BEGUN]
-    if call <= BACK:
+    if call <= BACK or call == SET_MOVE:
         return answer_change(carpet, call, handed)
-    return answer_question(carpet, call, handed)
+    if call <= BEST_MOVE:
+        return answer_of_orders(carpet, call, handed)
+    if call <= ALONE:
+        return answer_of_rolls(carpet, call, handed)
+    if call == LOOK:
+        return look(carpet, handed[0])
+    return state(carpet)
 
 
 def answers(calls):

@@ -3,7 +3,9 @@
 Each answers a list: the number, or the refusal, alone.
 """
 
-from patternmeets.refusals import NO_ROOM, NO_SUCH, NOT_AS_TOLD
+from patternmeets.orders import best_shift
+from patternmeets.places import goes_into, moved_on, places_left
+from patternmeets.refusals import NO_MOVE, NO_ROOM, NO_SUCH, NOT_AS_TOLD
 from patternmeets.works import Piece
 
 LONGEST_REPEAT = 120
@@ -24,12 +26,20 @@ def is_as_told(carpet, long, begins, longest):
     return 1 <= long and long <= longest and begins < carpet.repeat
 
 
-def add_strip(carpet, long, begins):
+# Why there can't be one more such strip; None if there can.
+def strip_refusal(carpet, long, begins):
     if not is_as_told(carpet, long, begins, LONGEST_STRIP):
-        return [NOT_AS_TOLD]
+        return NOT_AS_TOLD
+    if len(carpet.strips) == MOST_STRIPS:
+        return NO_ROOM
+    return None
+
+
+def add_strip(carpet, long, begins):
+    refusal = strip_refusal(carpet, long, begins)
+    if refusal is not None:
+        return [refusal]
     number = len(carpet.strips)
-    if number == MOST_STRIPS:
-        return [NO_ROOM]
     carpet.change(carpet.repeat, carpet.strips + [Piece(long, begins)], carpet.rolls)
     return [number]
 
@@ -71,16 +81,20 @@ def set_begins(carpet, i, place):
     return [old.begins]
 
 
-def places_left(pieces, repeat):
-    return [Piece(piece.long, piece.begins % repeat) for piece in pieces]
-
-
 def set_pattern(carpet, repeat):
     old = carpet.repeat
-    if repeat == 0 or old % repeat != 0:
+    if not goes_into(repeat, old):
         return [NOT_AS_TOLD]
     carpet.change(repeat, places_left(carpet.strips, repeat), places_left(carpet.rolls, repeat))
     return [old]
+
+
+def set_move(carpet):
+    found = best_shift(carpet.strips, carpet.repeat)
+    if found[0] == 0:
+        return [NO_MOVE]
+    carpet.change(carpet.repeat, moved_on(carpet.strips, found[0], carpet.repeat), carpet.rolls)
+    return [found[1]]
 
 
 def back(carpet):

@@ -7,6 +7,12 @@ from patternmeets.carpets import answers
 GREATEST = 4294967295
 BACK = [7]
 BEST = [10]
+BEST_MOVE = [13]
+SET_MOVE = [14]
+FITS = [15]
+SPARE = [16]
+MOST = [17]
+STATE = [21]
 
 
 def begin(repeat):
@@ -43,6 +49,26 @@ def gap(i, j):
 
 def need(*order):
     return [9, len(order)] + list(order)
+
+
+def best_last(i):
+    return [11, i]
+
+
+def finer(repeat):
+    return [12, repeat]
+
+
+def could(long, begins):
+    return [18, long, begins]
+
+
+def alone(i, j):
+    return [19, i, j]
+
+
+def look(i):
+    return [20, i]
 
 
 def joined(calls):

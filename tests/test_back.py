@@ -2,7 +2,8 @@
 
 import unittest
 
-from tests.helper import BACK, BEST, Case, begin, begins, drop, gap, need, pattern, roll, strip, unroll
+from tests.helper import BACK, BEST, SET_MOVE, STATE, Case, begin, begins, drop, gap, look, need, pattern, roll, strip
+from tests.helper import unroll
 
 
 class Back(Case):
@@ -28,6 +29,24 @@ class Back(Case):
         self.check(
             (begin(10), 0), (strip(5, 8), 0), (pattern(5), 10), (BEST, [8, 0]), (BACK, 1), (BEST, [13, 0]),
             (begins(0, 9), 8), (pattern(2), 10))
+
+    def test_after_set_move(self):
+        self.check(
+            (begin(10), 0), (strip(5, 3), 0), (SET_MOVE, 5), (look(0), [5, 0, 5]), (BACK, 1), (look(0), [5, 3, 8]),
+            (BACK, 0), (BACK, -2))
+
+    def test_a_set_move_that_was_refused_doesn_t_count(self):
+        self.check(
+            (begin(10), 0), (SET_MOVE, -17), (BACK, -2), (strip(5, 0), 0), (SET_MOVE, -17), (BACK, 0),
+            (STATE, [10, 0, 0, 0]))
+
+    def test_set_moves_among_more_than_ten(self):
+        # Twelve changes: the strip, the first begins, and the last ten, which can be taken back.
+        first = [(strip(5, 0), 0), (begins(0, 9), 0), (SET_MOVE, 5), (begins(0, 8), 0), (SET_MOVE, 5)]
+        later = [(begins(0, k), k - 1) for k in range(1, 7)] + [(SET_MOVE, 5)]
+        backs = [(BACK, 9), (look(0), [5, 6, 1])] + [(BACK, k) for k in range(8, 1, -1)]
+        last = [(look(0), [5, 8, 3]), (BACK, 1), (look(0), [5, 0, 5]), (BACK, 0), (look(0), [5, 9, 4]), (BACK, -2)]
+        self.check((begin(10), 0), *first, *later, (STATE, [10, 1, 0, 10]), *backs, *last, (look(0), [5, 9, 4]))
 
     def test_all_the_way_in_turn(self):
         self.check(

@@ -66,6 +66,16 @@ class Language(unittest.TestCase):
                 for alias in node.names:
                     self.assertIn(alias.name, defined[node.module], path)
 
+    def test_no_two_files_draw_from_one_another(self):
+        drawn = {}
+        for path, tree in self.trees():
+            drawn["patternmeets." + path.stem] = {node.module for node in tree.body if isinstance(node, ast.ImportFrom)}
+        while drawn:
+            ends = [name for name in drawn if not drawn[name] & set(drawn)]
+            self.assertNotEqual(ends, [], drawn)
+            for name in ends:
+                drawn.pop(name)
+
     def test_top_of_a_module(self):
         for path, tree in self.trees():
             self.assertIsNotNone(ast.get_docstring(tree), path)

@@ -1,25 +1,60 @@
-"""Many lists of calls, answered once more by walking each roll centimetre by centimetre.
+"""Many lists of calls, answered once more by walking each roll centimetre by centimetre."""
 
-Also what holds (a): no order needs less than the best one, and none can be laid so that it ends sooner.
-"""
-
+import functools
 import itertools
 import random
 import unittest
 
 from patternmeets.carpets import answers
-from tests.helper import BACK, BEST, GREATEST, begin, begins, drop, gap, joined, need, pattern, roll, strip, taken_apart
-from tests.helper import unroll
+from tests.helper import BACK, BEST, BEST_MOVE, FITS, GREATEST, MOST, SET_MOVE, SPARE, STATE, alone, begin, begins
+from tests.helper import best_last, could, drop, finer, gap, joined, look, need, pattern, roll, strip, taken_apart, unroll
+
+NAMES = ("begin", "strip", "drop", "begins", "roll", "unroll", "pattern", "back", "gap", "need", "best", "best_last",
+         "finer", "best_move", "set_move", "fits", "spare", "most", "could", "alone", "look", "state")
 
 
-def walked_need(strips, order, repeat):
+def walked_need(strips, order, repeat, start=0):
+    """What the order needs of a roll that begins at place start."""
     at = 0
     for i in order:
         long, place = strips[i]
-        while at % repeat != place:
+        while (start + at) % repeat != place:
             at += 1
         at += long
     return at
+
+
+@functools.lru_cache(maxsize=None)
+def least_walked(strips, repeat, start):
+    """What the strips need at least of a roll that begins at place start: every order is walked, each rest once."""
+    needs = [0]
+    if strips:
+        needs = []
+        for k, one in enumerate(strips):
+            first = walked_need((one,), [0], repeat, start)
+            needs.append(first + least_walked(strips[:k] + strips[k + 1:], repeat, (start + first) % repeat))
+    return min(needs)
+
+
+def moved(strips, by, repeat):
+    return tuple((long, (place + by) % repeat) for long, place in strips)
+
+
+def left_of_rolls(strips, rolls, repeat, way):
+    """What is left of each roll behind the strips that the way gives to it."""
+    given = [tuple(one for one, to in zip(strips, way) if to == j) for j in range(len(rolls))]
+    return [long - least_walked(given[j], repeat, place) for j, (long, place) in enumerate(rolls)]
+
+
+def ways_that_fit(strips, rolls, repeat):
+    """Each way by which the strips fit, the first way first."""
+    for way in itertools.product(range(len(rolls)), repeat=len(strips)):
+        if min(left_of_rolls(strips, rolls, repeat, way), default=0) >= 0:
+            yield list(way)
+
+
+def first_that_fits(strips, rolls, repeat):
+    return next(ways_that_fit(strips, rolls, repeat), None)
 
 
 class Model:
@@ -33,7 +68,7 @@ class Model:
         self.states = (self.states + [(repeat, tuple(strips), tuple(rolls))])[-11:]
 
     def answer(self, call):
-        name = ("begin", "strip", "drop", "begins", "roll", "unroll", "pattern", "back", "gap", "need", "best")[call[0]]
+        name = NAMES[call[0]]
         if name != "begin" and not self.states:
             return [-61]
         return getattr(self, name)(*call[1:])
@@ -119,6 +154,86 @@ class Model:
         orders = itertools.permutations(range(len(strips)))
         return list(min((walked_need(strips, order, repeat),) + order for order in orders))
 
+    def best_last(self, i):
+        repeat, strips, _ = self.now()
+        if i not in range(len(strips)):
+            return [-2]
+        orders = itertools.permutations(range(len(strips)))
+        return [min(walked_need(strips, order, repeat) for order in orders if order[-1] == i)]
+
+    def finer(self, r):
+        repeat, strips, _ = self.now()
+        if r not in [k for k in range(1, repeat + 1) if repeat % k == 0]:
+            return [-22]
+        return [least_walked(moved(strips, 0, r), r, 0)]
+
+    def best_move(self):
+        repeat, strips, _ = self.now()
+        needs = [least_walked(moved(strips, by, repeat), repeat, 0) for by in range(repeat)]
+        return [needs.index(min(needs)), min(needs)]
+
+    def set_move(self):
+        repeat, strips, rolls = self.now()
+        by, least = self.best_move()
+        if by == 0:
+            return [-17]
+        self.later(repeat, moved(strips, by, repeat), rolls)
+        return [least]
+
+    def fits(self):
+        repeat, strips, rolls = self.now()
+        if not rolls:
+            return [-6]
+        way = first_that_fits(strips, rolls, repeat)
+        return [-33] if way is None else [len(strips)] + way
+
+    def spare(self):
+        repeat, strips, rolls = self.now()
+        answered = self.fits()
+        if answered[0] < 0:
+            return answered
+        return [len(rolls)] + left_of_rolls(strips, rolls, repeat, answered[1:])
+
+    def most(self):
+        repeat, strips, rolls = self.now()
+        if not rolls:
+            return [-6]
+        found = []
+        for number in range(2 ** len(strips)):
+            chosen = tuple(one for i, one in enumerate(strips) if number & 2 ** i)
+            if first_that_fits(chosen, rolls, repeat) is not None:
+                found.append((-len(chosen), number))
+        return [-min(found)[0], min(found)[1]]
+
+    def could(self, long, place):
+        repeat, strips, rolls = self.now()
+        if long not in range(1, 1001) or place not in range(repeat):
+            return [-22]
+        if len(strips) == 6:
+            return [-28]
+        way = first_that_fits(strips + ((long, place),), rolls, repeat)
+        return [0 if way is None else 1]
+
+    def alone(self, i, j):
+        repeat, strips, rolls = self.now()
+        if i not in range(len(strips)) or j not in range(len(rolls)):
+            return [-2]
+        long, place = rolls[j]
+        whole = walked_need(strips, [i], repeat, place)
+        return [1 if whole <= long else 0, whole]
+
+    def look(self, i):
+        repeat, strips, _ = self.now()
+        if i not in range(len(strips)):
+            return [-2]
+        long, place = strips[i]
+        return [long, place, (place + long) % repeat]
+
+    def state(self):
+        repeat, strips, rolls = self.now()
+        told = [repeat, len(strips), len(rolls), len(self.states) - 1]
+        return told + [number for one in rolls for number in one]
+
 
 def some_calls(source):
     repeat = source.choice([1, 2, 3, 6, 10, 12, 30, 60, 97, 120])
@@ -142,7 +257,10 @@ def some_calls(source):
         lambda: drop(number()), lambda: begins(number(), place()), lambda: roll(long() * 10, place()),
         lambda: roll(long(), place()), lambda: unroll(number()), lambda: BACK, lambda: gap(number(), number()),
         lambda: pattern(source.choice([0, 1, 2, 3, 5, 6, 10, repeat, repeat])), lambda: need(*row()),
-        lambda: need(*[number() for _ in range(source.randint(0, 8))]), lambda: BEST]
+        lambda: need(*[number() for _ in range(source.randint(0, 8))]), lambda: BEST, lambda: best_last(number()),
+        lambda: finer(source.choice([0, 1, 2, 3, 5, 6, 10, repeat, repeat, GREATEST])), lambda: BEST_MOVE,
+        lambda: SET_MOVE, lambda: FITS, lambda: FITS, lambda: SPARE, lambda: MOST, lambda: could(long(), place()),
+        lambda: alone(number(), number()), lambda: look(number()), lambda: STATE]
     calls = [begin(repeat)] if source.random() < 0.95 else [source.choice(makers)(), begin(0), BEST, begin(repeat)]
     while len(calls) < 40:
         calls.append(source.choice(makers)())
@@ -151,43 +269,54 @@ def some_calls(source):
     return calls
 
 
+def full_state(source):
+    """Calls that make a state whose rolls are together about as long as its strips need."""
+    repeat = source.choice([1, 2, 6, 10, 60, 120, source.randint(1, 120)])
+    longest = source.choice([repeat, 2 * repeat, 1000])
+    count = source.choice([3, 4, 5, 6, 6])
+    strips = [(source.randint(1, longest), source.randrange(repeat)) for _ in range(count)]
+    rolls = source.choice([1, 2, 3, 3])
+    whole = sum(long for long, _ in strips) // rolls
+    calls = [begin(repeat)] + [strip(*one) for one in strips]
+    for _ in range(rolls):
+        calls.append(roll(max(1, whole + source.randint(-repeat // 2, 2 * repeat)), source.randrange(repeat)))
+    return calls
+
+
 class AgainstTheModel(unittest.TestCase):
+    def compare(self, calls):
+        model = Model()
+        wanted = [model.answer(call) for call in calls]
+        self.assertEqual(taken_apart(answers(joined(calls))), wanted, calls)
+        return wanted
+
     def test_many_lists_of_calls(self):
         for seed in range(500):
-            calls = some_calls(random.Random(seed))
-            model = Model()
-            wanted = [model.answer(call) for call in calls]
-            self.assertEqual(taken_apart(answers(joined(calls))), wanted, calls)
+            self.compare(some_calls(random.Random(seed)))
 
+    def test_a_hundred_calls_with_all_that_there_may_be(self):
+        for seed in range(3):
+            source = random.Random(seed)
+            calls = [begin(120)] + [strip(source.randint(1, 1000), source.randrange(120)) for _ in range(6)]
+            calls += [roll(source.randint(800, 2000), source.randrange(120)) for _ in range(3)]
+            asked = [FITS, SPARE, MOST, BEST, BEST_MOVE, SET_MOVE, STATE, finer(60), best_last(5), alone(5, 2), look(5)]
+            while len(calls) < 100:
+                i = source.randrange(6)
+                calls.append(source.choice(asked * 2 + [BACK, begins(i, source.randrange(120)), could(5, 5)]))
+            self.compare(calls)
 
-def laid_ends(strips, order, repeat, slack):
-    """Where the order ends, laid in every way that leaves up to so many repeats too much ahead of a strip."""
-    ends = [0]
-    for i in order:
-        long, place = strips[i]
-        later = []
-        for end in ends:
-            first = next(at for at in range(end, end + repeat) if at % repeat == place)
-            later.extend(first + k * repeat + long for k in range(slack + 1))
-        ends = later
-    return ends
-
-
-class WhatHolds(unittest.TestCase):
-    def test_no_order_needs_less_and_none_ends_sooner(self):
-        source = random.Random(7)
-        for _ in range(40):
-            repeat = source.randint(1, 120)
-            count = source.randint(1, 4)
-            strips = [(source.randint(1, 1000), source.randrange(repeat)) for _ in range(count)]
-            orders = list(itertools.permutations(range(count)))
-            calls = [begin(repeat)] + [strip(*one) for one in strips] + [BEST] + [need(*order) for order in orders]
-            told = taken_apart(answers(joined(calls)))[count + 1:]
-            best, needs = told[0], [pair[0] for pair in told[1:]]
-            self.assertEqual(best[0], min(needs))
-            self.assertEqual(tuple(best[1:]), orders[needs.index(min(needs))])
-            for order, whole in zip(orders, needs):
-                self.assertEqual(min(laid_ends(strips, order, repeat, 2)), whole)
+    def test_many_full_states(self):
+        firsts = []
+        for seed in range(150):
+            source = random.Random(seed)
+            asked = [FITS, SPARE, MOST, BEST, BEST_MOVE] + [best_last(i) for i in range(6)] + [look(i) for i in range(6)]
+            asked += [alone(i, j) for i in range(6) for j in range(3)]
+            calls = full_state(source) + asked + [drop(0), could(source.randint(1, 200), 0), FITS, SET_MOVE, STATE, SPARE]
+            told = self.compare(calls)
+            firsts.append(told[calls.index(FITS)][0])
+        # Else the states drawn would be too easy, or too hard, to tell anything.
+        self.assertGreater(firsts.count(-33), 20)
+        self.assertGreater(len(firsts) - firsts.count(-33), 20)
 
 
 if __name__ == "__main__":

@@ -1,8 +1,8 @@
-"""Promise 2: gap, need, best."""
+"""Promise 2: gap, need, best, best_last."""
 
 import unittest
 
-from tests.helper import BEST, GREATEST, Case, begin, drop, gap, need, run, strip
+from tests.helper import BACK, BEST, GREATEST, Case, begin, best_last, drop, gap, need, run, strip
 
 
 class Gap(Case):
@@ -104,6 +104,46 @@ class Best(Case):
         answered = run(begin(120), *[strip(1000, 119)] * 6, BEST)[-1]
         # 1000 is 8 repeats and 40: each but the last leaves 80 ahead of the next.
         self.assertEqual(answered, [119 + 6 * 1000 + 5 * 80, 0, 1, 2, 3, 4, 5])
+
+
+class BestLast(Case):
+    def test_one_strip(self):
+        self.check((begin(64), 0), (strip(100, 3), 0), (best_last(0), 103))
+
+    def test_each_of_two(self):
+        self.check(
+            (begin(64), 0), (strip(100, 3), 0), (strip(250, 10), 1), (best_last(0), 423), (best_last(1), 388))
+
+    def test_each_of_three(self):
+        # What each of the six orders needs is told in Best, above.
+        self.check(
+            (begin(10), 0), (strip(3, 3), 0), (strip(3, 0), 1), (strip(3, 7), 2),
+            (best_last(0), 16), (best_last(1), 13), (best_last(2), 10), (best_last(3), -2))
+
+    def test_each_of_six(self):
+        # Each ends where the one before it in number must begin, and strip 0 ends where strip 5 must begin:
+        # with strip k last it's best to begin with strip k - 1, which leaves 60 - 10 k ahead of it.
+        six = [(strip(10, 50 - 10 * k), k) for k in range(6)]
+        self.check(
+            (begin(60), 0), *six, (best_last(0), 60), (best_last(1), 110), (best_last(2), 100), (best_last(3), 90),
+            (best_last(4), 80), (best_last(5), 70), (best_last(6), -2))
+
+    def test_strips_alike(self):
+        six = [(strip(7, 3), k) for k in range(6)]
+        self.check((begin(10), 0), *six, *[(best_last(k), 60) for k in range(6)])
+
+    def test_a_repeat_of_one(self):
+        self.check((begin(1), 0), (strip(9, 0), 0), (strip(4, 0), 1), (best_last(0), 13), (best_last(1), 13))
+
+    def test_no_such_strip(self):
+        self.check(
+            (begin(10), 0), (best_last(0), -2), (strip(5, 3), 0), (best_last(1), -2), (best_last(GREATEST), -2),
+            (best_last(0), 8), (drop(0), 0), (best_last(0), -2))
+
+    def test_it_changes_nothing(self):
+        self.check(
+            (begin(10), 0), (strip(5, 3), 0), (strip(5, 8), 1), (best_last(0), 18), (best_last(0), 18),
+            (BEST, [13, 0, 1]), (BACK, 1))
 
 
 if __name__ == "__main__":
